@@ -1,0 +1,1 @@
+"""Pages asked for, handed out, given back."""
