@@ -12,7 +12,6 @@ GIVE = 2
 GROW = 3
 CUT = 4
 JOIN = 5
-MARK = 6
 
 # By a call's number: for each of its own numbers the least and the greatest, or None if any will do.
 RANGES = {
@@ -46,6 +45,7 @@ def act(house, call, numbers, given):
         return cut_run(house, numbers[0], numbers[1])
     if call == JOIN:
         return join_runs(house, numbers[0])
+    # RANGES lets only one more number through: 6, mark.
     return mark_run(house, numbers[0], numbers[1])
 
 
