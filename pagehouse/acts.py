@@ -1,10 +1,7 @@
 """What each call does to a house. The numbers are in their ranges already; a refusal is a number below 0."""
 
+from pagehouse.refusals import NOT_ALLOWED, NO_ROOM, NO_RUN
 from pagehouse.rows import lowest_place
-
-NO_RUN = -5
-NOT_ALLOWED = -6
-NO_ROOM = -7
 
 KEPT = 4
 
@@ -29,9 +26,7 @@ def sizes_to_ask(chunk, pages, step):
 
 def get_more(house, sizes, given):
     for pages in sizes:
-        first = given.more(pages)
-        if house.can_come(first, pages):
-            house.make_free(first, pages)
+        if house.ask_more(pages, given):
             return
 
 

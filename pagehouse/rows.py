@@ -30,11 +30,11 @@ def touch_any(rows, first, pages):
     return False
 
 
-def hold_all(rows, first, pages):
+def row_with(rows, first, pages):
     for start, count in rows:
         if start <= first and first + pages <= start + count:
-            return True
-    return False
+            return (start, count)
+    return None
 
 
 def lowest_place(rows, pages, step):

@@ -6,11 +6,14 @@ import io
 import unittest
 from unittest import mock
 
-from helper import GREATEST, LEAST, begin, cut, give, grow, join, line, mark, take
+from helper import (GREATEST, LEAST, Case, begin, cut, get, give, grow, join, line, look, mark, place, put, runs, sums,
+                    take, trim)
 from pagehouse.desk import answers
 
-CALLS = line([begin(16, 4, 2), take(3, 0, 0, [8]), take(2, 1, 1), cut(8, 1), join(8), mark(8, 2), grow(8, 2),
-              give(8, [5, 6]), begin(0, 0, 0), take(1, 2, 0, [-1, 13]), begin(9, 9, 9), take(9)])
+CALLS = line([begin(16, 4, 2), take(3, 0, 0, [8]), take(2, 1, 1), put(place(9) - 2, [1, 2, 3, 4]),
+              get(place(9) - 2, 4), cut(8, 1), join(8), mark(8, 2), get(place(8), 1), grow(8, 2), look(9), runs(0, 9),
+              sums(), trim(1), give(8, [5, 6]), begin(0, 0, 0), take(1, 2, 0, [-1, 13]), sums([5]), begin(9, 9, 9),
+              take(9), put(0, range(256)), get(0, 256)])
 
 
 class FrozenList(list):
@@ -23,7 +26,7 @@ class FrozenList(list):
     __setitem__ = __delitem__ = __iadd__ = __imul__ = refuse
 
 
-class ShapeTest(unittest.TestCase):
+class ShapeTest(Case):
     def test_every_call_by_its_number(self):
         calls = [0, 64, 4, 2, 0]
         wanted = [2, 0, 0]
@@ -39,11 +42,41 @@ class ShapeTest(unittest.TestCase):
         wanted += [2, 0, 4]
         calls += [3, 8, 1, 1, 7]
         wanted += [5, 1, 2, 11, 1, 1]
-        calls += [2, 8, 0]
+        calls += [7, 32766, 4, 255, 0, 1, 2, 0]
+        wanted += [2, 0, -5]
+        calls += [7, 32768, 4, 255, 0, 1, 2, 3, 7, 8, 9]
+        wanted += [2, 0, 0]
+        calls += [8, 32767, 3, 0]
+        wanted += [2, 0, -5]
+        calls += [8, 32768, 5, 1, 4]
+        wanted += [7, 0, 0, 255, 0, 1, 2, 0]
+        calls += [9, 9, 0]
+        wanted += [5, 0, 1, 9, 2, 0]
+        calls += [10, 0, 2, 2, 5, 5]
+        wanted += [5, 0, 1, 8, 1, 0]
+        calls += [11, 1, 0]
+        wanted += [10, 0, 0, 3, 2, 1, 1, 0, 4, 1, 4]
+        calls += [12, 1, 1, -1]
         wanted += [5, 1, 2, 10, 1, 1]
+        calls += [2, 8, 0]
+        wanted += [2, 0, 1]
         calls += [0, 8, 1, 0, 0]
         wanted += [5, 1, 2, 8, 2, 0]
         self.assertEqual(answers(calls), wanted)
+
+    def test_puts_and_gets_of_no_bytes(self):
+        calls = line([begin(1, 1, 0), take(1)]) + [7, 5, 0, 0, 8, 5, 0, 0, 7, 5, 0, 1, 9, 8, 5, 0, 1, 9]
+        self.assertEqual(answers(calls), [2, 0, 0, 4, 1, 1, 1, 0] + 4 * [2, 0, 0])
+
+    def test_bytes_and_given_answers_are_told_apart(self):
+        calls = line([begin(1, 1, 0), take(1)]) + [7, 0, 2, 3, 4, 3, 8, 0, 1, 8, 0, 3, 2, 7, 0]
+        self.assertEqual(answers(calls)[8:], [2, 0, 0, 5, 0, 0, 3, 4, 0])
+
+    def test_runs_and_looks_have_no_count_but_the_one_that_is_told(self):
+        calls = line([begin(4, 1, 0), take(3), cut(0, 1), runs(0, 2), runs(1, 1), runs(2, 1), look(2), look(3),
+                      trim(0)])
+        self.assertEqual(answers(calls)[11:], [8, 0, 2, 0, 1, 0, 1, 2, 0, 5, 0, 2, 1, 2, 0, 2, 0, 2, 5, 0, 2, 1, 2, 0,
+                                               5, 0, 0, 3, 0, 0, 2, 0, 0])
 
     def test_several_asks_stand_in_their_order(self):
         self.assertEqual(answers(line([begin(64, 9, 0), take(2, 1, 0, [-1, -1, 6])])),
@@ -62,9 +95,11 @@ class ShapeTest(unittest.TestCase):
         for number in (LEAST, GREATEST):
             calls = [begin(1, 1, 0, [number]), begin(number, number, number, [number]), take(number, number, number),
                      give(number), grow(number, number), grow(number, 1), cut(number, number), join(number),
-                     mark(number, number), mark(number, 0), take(1, 0, 0, [number])]
+                     mark(number, number), mark(number, 0), put(number, [255]), put(number), get(number, number),
+                     get(number, 0), get(number, 4096), look(number), runs(number, number), runs(0, number),
+                     trim(number), take(1, 0, 0, [number])]
             wanted = [2, 0, 0]
-            for refusal in (-8, -8, -5, -8, -5, -5, -5, -8, -5):
+            for refusal in (-8, -8, -5, -8, -5, -5, -5, -8, -5, -5, -5, -8, -5, -5, -8, -8, -8, -8):
                 wanted += [2, 0, refusal]
             self.assertEqual(answers(line(calls)), wanted + [4, 1, 1, 1, -7])
 
@@ -86,8 +121,27 @@ class ShapeTest(unittest.TestCase):
             wanted += [2, 0, step * 2 + 2, 2, 0, 2]
         self.assertEqual(answers(line(calls)), wanted)
 
+    def test_a_hundred_calls_and_the_most_bytes(self):
+        calls = [begin(16384, 1024, 0), take(16384)]
+        calls += [put(place(2000 * step, 1 + step), [step + 1] * 4096) for step in range(7)]
+        calls += [get(place(2000 * (step % 7), 1 + step % 7), 4096) for step in range(91)]
+        wanted = [2, 0, 0, 4, 1, 1, 16384, 0] + 7 * [2, 0, 0]
+        for step in range(91):
+            wanted += [4098, 0, 0] + [step % 7 + 1] * 4096
+        self.assertEqual(len(calls), 100)
+        self.assertLessEqual(len(line(calls)), 30000)
+        self.assertEqual(answers(line(calls)), wanted)
 
-class LeftAloneTest(unittest.TestCase):
+    def test_many_pages_with_bytes_taken_again_and_again(self):
+        calls = [begin(16384, 1, 16384), take(16384)]
+        calls += [put(place(2000 * step), [9] * 4000) for step in range(7)]
+        for unused in range(45):
+            calls += [give(0), take(16384)]
+        calls += [get(place(2000 * 6), 4096)]
+        self.assertEqual(answers(line(calls))[-4098:], [0] * 4098)
+
+
+class LeftAloneTest(Case):
     def test_what_is_handed_in_is_as_it_was(self):
         handed = list(CALLS)
         answers(handed)

@@ -103,11 +103,33 @@ class FormTest(unittest.TestCase):
             self.assertEqual(node.level, 0, name)
             self.assertTrue(node.module.startswith("pagehouse."), name)
             source = PACKAGE / (node.module.split(".")[1] + ".py")
-            defined = [part.name for part in ast.parse(source.read_text()).body
-                       if isinstance(part, (ast.FunctionDef, ast.ClassDef))]
+            parts = ast.parse(source.read_text()).body
+            defined = [part.name for part in parts if isinstance(part, (ast.FunctionDef, ast.ClassDef))]
+            # A list or dict of a file's top is not handed on, so whole numbers alone are drawn beside these.
+            defined += [part.targets[0].id for part in parts
+                        if isinstance(part, ast.Assign) and isinstance(ast.literal_eval(part.value), int)]
             for drawn in node.names:
                 self.assertIn(drawn.name, defined, name)
                 self.assertIsNone(drawn.asname, name)
+
+    def test_no_file_draws_from_one_that_draws_from_it(self):
+        sources = {path.stem: set() for path in PACKAGE.glob("*.py")}
+        for name, node in walked(ast.ImportFrom):
+            sources[name[:-3]].add(node.module.split(".")[1])
+        self.assertEqual(sources["__init__"], set())
+        while sources:
+            ready = [name for name in sources if not sources[name] & set(sources)]
+            self.assertNotEqual(ready, [], sources)
+            for name in ready:
+                sources.pop(name)
+
+    def test_no_local_is_called_like_an_import_or_a_class(self):
+        for path in sorted(PACKAGE.glob("*.py")):
+            nodes = list(ast.walk(ast.parse(path.read_text())))
+            above = {node.name for node in nodes if isinstance(node, (ast.ClassDef, ast.alias))}
+            local = {node.id for node in nodes if isinstance(node, ast.Name) and isinstance(node.ctx, ast.Store)}
+            local |= {node.arg for node in nodes if isinstance(node, ast.arg)}
+            self.assertEqual(above & local, set(), path.name)
 
     def test_names(self):
         for name, node in walked((ast.Name, ast.arg, ast.FunctionDef, ast.ClassDef)):

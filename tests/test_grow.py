@@ -2,16 +2,14 @@
 
 import unittest
 
-from helper import GREATEST, LEAST, begin, cut, give, grow, join, last, less, mark, more, take, told
-from pagehouse import acts
-from pagehouse.given import Given
-from pagehouse.house import House
+from helper import (GREATEST, LEAST, Case, begin, cut, get, give, grow, join, last, less, mark, more, place, put, take,
+                    told)
 
 # A run of pages 4 to 6, marked 1, with 7 to 11 free behind it.
 RUN = [begin(32, 8, 32), take(3, 0, 1, [4])]
 
 
-class RangeTest(unittest.TestCase):
+class RangeTest(Case):
     def test_both_ends(self):
         self.assertEqual(last(*RUN, grow(4, 1)), (1, []))
         self.assertEqual(last(*RUN, grow(4, 16384)), (-7, []))
@@ -27,7 +25,7 @@ class RangeTest(unittest.TestCase):
         self.assertEqual(last(*RUN, mark(4, 4), grow(4, 16385)), (-8, []))
 
 
-class FewerTest(unittest.TestCase):
+class FewerTest(Case):
     def test_its_last_pages_are_free(self):
         calls = [*RUN, grow(4, 2)]
         self.assertEqual(last(*calls), (2, []))
@@ -48,14 +46,14 @@ class FewerTest(unittest.TestCase):
         self.assertEqual(last(*calls, grow(4, 2, [-1, -1])), (2, [less(6, 6)]))
 
 
-class SameTest(unittest.TestCase):
+class SameTest(Case):
     def test_nothing_changes_and_nothing_is_trimmed(self):
         calls = [begin(32, 8, 0), take(3, 0, 1, [4]), grow(4, 3)]
         self.assertEqual(last(*calls), (3, []))
         self.assertEqual(last(*calls, begin(1, 1, 0)), (0, [less(4, 8)]))
 
 
-class MoreTest(unittest.TestCase):
+class MoreTest(Case):
     def test_the_pages_right_behind_it_are_its_own(self):
         calls = [*RUN, grow(4, 5)]
         self.assertEqual(last(*calls), (5, []))
@@ -99,19 +97,13 @@ class MoreTest(unittest.TestCase):
             self.assertEqual(last(*calls, mark(4, 0), join(4)), (-6, []))
 
     def test_their_bytes_are_0_and_its_own_stay(self):
-        house = House()
-        acts.begin(house, 16, 8, 16, Given([]))
-        acts.take(house, 4, 0, 0, Given([]))
-        for page in range(4):
-            house.written[page] = [7] * 4096
-        acts.grow(house, 0, 1, Given([]))
-        acts.grow(house, 0, 3, Given([]))
-        self.assertNotIn(1, house.written)
-        self.assertNotIn(2, house.written)
-        self.assertEqual(house.written[0], [7] * 4096)
+        calls = [begin(16, 8, 16), take(4)] + [put(place(page), [7] * 4096) for page in range(4)]
+        calls += [grow(0, 1), grow(0, 3)]
+        for page, byte in enumerate([7, 0, 0]):
+            self.assertEqual(last(*calls, get(place(page), 4096)), ([0] + [byte] * 4096, []))
 
 
-class RefusalTest(unittest.TestCase):
+class RefusalTest(Case):
     def test_no_run_begins_there(self):
         for p in (LEAST, -1, 0, 3, 5, 6, 7, 31, 32, GREATEST):
             self.assertEqual(last(*RUN, grow(p, 2)), (-5, []), p)
@@ -129,7 +121,7 @@ class RefusalTest(unittest.TestCase):
         self.assertEqual(last(*RUN, mark(4, 4), grow(4, 16384)), (-6, []))
 
 
-class BehindGrowTest(unittest.TestCase):
+class BehindGrowTest(Case):
     def test_pages_given_up_by_the_end_are_asked_for_again(self):
         calls = [begin(8, 1, 0), take(3), grow(0, 1), take(2, 0, 0, [1])]
         self.assertEqual(told(*calls)[2:], [(1, [less(1, 2)]), (1, [more(2)])])

@@ -2,13 +2,10 @@
 
 import unittest
 
-from helper import GREATEST, LEAST, begin, cut, give, join, last, less, mark, more, take, told
-from pagehouse import acts
-from pagehouse.given import Given
-from pagehouse.house import House
+from helper import GREATEST, LEAST, Case, begin, cut, get, give, join, last, less, mark, more, place, put, take, told
 
 
-class RangeTest(unittest.TestCase):
+class RangeTest(Case):
     def answered(self, *numbers):
         return last(begin(16384, 1, 0), take(*numbers))[0]
 
@@ -29,7 +26,7 @@ class RangeTest(unittest.TestCase):
         self.assertEqual(last(begin(2, 1, 0), take(16384, 0, 0, [-1])), (-7, [more(16384)]))
 
 
-class PlaceTest(unittest.TestCase):
+class PlaceTest(Case):
     def test_the_lowest_free_place_without_an_ask(self):
         calls = [begin(64, 8, 64), take(3, 0, 0, [10]), take(5), take(1, 0, 0, [0])]
         self.assertEqual(told(*calls)[1:], [(10, [more(8)]), (13, []), (0, [more(8)])])
@@ -71,7 +68,7 @@ class PlaceTest(unittest.TestCase):
         self.assertEqual([answer[0] for answer in told(*calls)[3:]], [4, 3, 6])
 
 
-class RunTest(unittest.TestCase):
+class RunTest(Case):
     def test_the_run_has_n_pages(self):
         self.assertEqual(last(begin(64, 8, 0), take(3, 0, 0, [8]), give(8))[0], 3)
 
@@ -82,19 +79,14 @@ class RunTest(unittest.TestCase):
                 self.assertEqual(last(*calls), (2 if value == other else -6, []))
 
     def test_its_bytes_are_0(self):
-        house = House()
-        acts.begin(house, 16, 8, 16, Given([]))
-        acts.take(house, 4, 0, 0, Given([]))
-        for page in range(4):
-            house.written[page] = [7] * 4096
-        acts.cut_run(house, 0, 1)
-        acts.cut_run(house, 1, 2)
-        acts.give(house, 1, Given([]))
-        self.assertEqual(acts.take(house, 2, 0, 0, Given([])), 1)
-        self.assertEqual(sorted(house.written), [0, 3])
+        calls = [begin(16, 8, 16), take(4)] + [put(place(page), [7] * 4096) for page in range(4)]
+        calls += [cut(0, 1), cut(1, 2), give(1), take(2)]
+        self.assertEqual(last(*calls), (1, []))
+        for page, byte in enumerate([7, 0, 0, 7]):
+            self.assertEqual(last(*calls, get(place(page), 4096)), ([0] + [byte] * 4096, []))
 
 
-class AskTest(unittest.TestCase):
+class AskTest(Case):
     def asks(self, chunk, n, e):
         return last(begin(64, chunk, 64), take(n, e, 0, [-1, -1, -1, -1]))
 
@@ -134,7 +126,7 @@ class AskTest(unittest.TestCase):
         self.assertEqual(last(*calls), (0, [more(3)]))
 
 
-class RefusedMoreTest(unittest.TestCase):
+class RefusedMoreTest(Case):
     # Page 8 free, 9 taken, 10 free.
     house = [begin(16, 1, 16), take(3, 0, 0, [8]), cut(8, 1), cut(9, 1), give(8), give(10)]
 
@@ -169,7 +161,7 @@ class RefusedMoreTest(unittest.TestCase):
         self.assertEqual(last(begin(16, 1, 0), take(2), give(0), take(3, 0, 0, [1])), (1, [more(3)]))
 
 
-class JoinedTest(unittest.TestCase):
+class JoinedTest(Case):
     def test_what_comes_is_one_row_with_the_free_page_ahead(self):
         calls = [begin(16, 1, 16), take(1, 0, 0, [4]), give(4), take(3, 0, 0, [5])]
         self.assertEqual(last(*calls), (4, [more(3)]))
@@ -187,7 +179,7 @@ class JoinedTest(unittest.TestCase):
         self.assertEqual(last(*came, take(8, 3)), (8, []))
 
 
-class NoRoomTest(unittest.TestCase):
+class NoRoomTest(Case):
     came = [begin(16, 1, 0), take(2, 1, 0, [-1, 3])]
 
     def test_what_came_does_not_fit(self):
@@ -207,7 +199,7 @@ class NoRoomTest(unittest.TestCase):
         self.assertEqual(last(begin(16, 8, 0), take(1), take(1), begin(16, 1, 0)), (0, [less(0, 8)]))
 
 
-class AnswersTest(unittest.TestCase):
+class AnswersTest(Case):
     def test_none_stand_there(self):
         self.assertEqual(last(begin(16, 4, 0), take(1, 0, 0, [])), (0, [more(4)]))
 
